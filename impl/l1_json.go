@@ -27,8 +27,8 @@ func Measure(text string) (int, int, int) {
 	if code != 0 {
 		return 0, 0, code
 	}
-	depth, count := measure(root)
-	return depth, count, 0
+	s := sizeOf(root)
+	return s.depth, s.count, 0
 }
 
 // Quote writes a string of JSON.
@@ -262,14 +262,45 @@ func partsOf(v value) []part {
 	return parts
 }
 
-func measure(v value) (depth int, count int) {
-	count = 1
-	for _, p := range partsOf(v) {
-		partDepth, partCount := measure(p.value)
-		depth = max(depth, partDepth)
-		count += partCount
+// size is what a good text has only so much of; bytes are those of the canonical
+// text.
+type size struct {
+	depth int
+	count int
+	bytes int
+}
+
+// sizeOf needs no order of the members, so it is much cheaper than writing the
+// value.
+func sizeOf(v value) size {
+	switch x := v.(type) {
+	case *arrayValue:
+		s := holderSize(len(x.items))
+		for _, item := range x.items {
+			s.include(item)
+		}
+		return s
+	case *objectValue:
+		s := holderSize(len(x.members))
+		for key, inner := range x.members {
+			s.bytes += len(canonText(stringValue(key))) + len(":")
+			s.include(inner)
+		}
+		return s
 	}
-	return depth + 1, count
+	return size{1, 1, len(canonText(v))}
+}
+
+// holderSize is the size of brackets with as many commas as the parts need.
+func holderSize(parts int) size {
+	return size{1, 1, len("[]") + max(0, parts-1)}
+}
+
+func (s *size) include(v value) {
+	inner := sizeOf(v)
+	s.depth = max(s.depth, inner.depth+1)
+	s.count += inner.count
+	s.bytes += inner.bytes
 }
 
 func child(v value, token string) (value, bool) {
@@ -399,7 +430,7 @@ func readText(text string) (value, int) {
 	case r.keyTwice:
 		return nil, 4
 	}
-	if depth, count := measure(root); depth > MaxDepth || count > MaxValues {
+	if s := sizeOf(root); s.depth > MaxDepth || s.count > MaxValues {
 		return nil, 5
 	}
 	return root, 0
