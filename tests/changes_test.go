@@ -142,6 +142,17 @@ func TestDiffMaxOps(t *testing.T) {
 	checkDiffApplies(t, all, none)
 }
 
+// TestDiffAtBounds has documents that together are as great as promise 8 allows;
+// in between, what is added stands beside what is still to be removed.
+func TestDiffAtBounds(t *testing.T) {
+	half := wide(impl.MaxText/2 - len(`{"a":}`))
+	checkDiff(t, `{"b":`+half+"}", `{"a":`+half+"}", patch(add("/a", half), remove("/b")))
+	many := flat(impl.MaxValues/2 - 1)
+	checkDiff(t, `{"b":`+many+"}", `{"a":`+many+"}", patch(add("/a", many), remove("/b")))
+	deep := nest(impl.MaxDepth-1, "[", "]", "")
+	checkDiff(t, `{"b":`+deep+"}", `{"a":`+deep+"}", patch(add("/a", deep), remove("/b")))
+}
+
 func TestChangesOfMadeValues(t *testing.T) {
 	m := newMaker(17)
 	for range 3000 {
