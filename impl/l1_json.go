@@ -44,7 +44,7 @@ func Unquote(text string) (string, bool) {
 	if len(text) > MaxText {
 		return "", false
 	}
-	r := &reader{text: text}
+	r := &reader{cursor: cursor{text: text}}
 	s := ""
 	ok := fits(func() {
 		s = r.readString()
@@ -262,6 +262,23 @@ func partsOf(v value) []part {
 	return parts
 }
 
+// equal holds for two values that are not there as well. It does not hold texts
+// against each other, since a string that is asked for may have any bytes.
+func equal(a value, b value) bool {
+	if a == b {
+		return true
+	}
+	switch x := a.(type) {
+	case *arrayValue:
+		y, ok := b.(*arrayValue)
+		return ok && slices.EqualFunc(x.items, y.items, equal)
+	case *objectValue:
+		y, ok := b.(*objectValue)
+		return ok && maps.EqualFunc(x.members, y.members, equal)
+	}
+	return false
+}
+
 // size is what a good text has only so much of; bytes are those of the canonical
 // text.
 type size struct {
@@ -384,11 +401,16 @@ func unescapeToken(piece string) (string, bool) {
 	return b.String(), true
 }
 
-// reader goes once through a text. Numbers out of range and keys that stand
-// twice are only noted: a fault of form behind them comes first.
+// cursor goes once through a text; readers of every form lean on it.
+type cursor struct {
+	text string
+	at   int
+}
+
+// reader reads JSON. Numbers out of range and keys that stand twice are only
+// noted: a fault of form behind them comes first.
 type reader struct {
-	text     string
-	at       int
+	cursor
 	tooBig   bool
 	keyTwice bool
 }
@@ -416,7 +438,7 @@ func readText(text string) (value, int) {
 	if len(text) > MaxText {
 		return nil, 1
 	}
-	r := &reader{text: text}
+	r := &reader{cursor: cursor{text: text}}
 	var root value
 	ok := fits(func() {
 		root = r.readValue()
@@ -437,14 +459,14 @@ func readText(text string) (value, int) {
 }
 
 // peek gives the byte 0 at the end: no value begins with it and it is no digit.
-func (r *reader) peek() byte {
+func (r *cursor) peek() byte {
 	if r.at == len(r.text) {
 		return 0
 	}
 	return r.text[r.at]
 }
 
-func (r *reader) next() byte {
+func (r *cursor) next() byte {
 	if r.at == len(r.text) {
 		panic(misfit{})
 	}
@@ -453,14 +475,14 @@ func (r *reader) next() byte {
 	return c
 }
 
-func (r *reader) expect(c byte) {
+func (r *cursor) expect(c byte) {
 	if r.next() != c {
 		panic(misfit{})
 	}
 }
 
 // skip goes over a byte that may stand there, and says whether it did.
-func (r *reader) skip(c byte) bool {
+func (r *cursor) skip(c byte) bool {
 	if r.at == len(r.text) || r.text[r.at] != c {
 		return false
 	}
@@ -468,7 +490,13 @@ func (r *reader) skip(c byte) bool {
 	return true
 }
 
-func (r *reader) readEnd() {
+func (r *cursor) readWord(word string) {
+	for i := range len(word) {
+		r.expect(word[i])
+	}
+}
+
+func (r *cursor) readEnd() {
 	if r.at != len(r.text) {
 		panic(misfit{})
 	}
@@ -507,12 +535,6 @@ func (r *reader) readBareValue() value {
 		return r.readObject()
 	}
 	return r.readNumber()
-}
-
-func (r *reader) readWord(word string) {
-	for i := range len(word) {
-		r.expect(word[i])
-	}
 }
 
 func (r *reader) readNumber() value {

@@ -35,4 +35,10 @@ func TestReadmeExamples(t *testing.T) {
 	checkTouched(t, ops, "/a", "/b", "/c")
 	checkClash(t, impl.Touched(ops), []string{"/b/0"}, true)
 	checkDiff(t, next, text, patch(add("/a", `"A"`), replace("/b", "[1,0]"), remove("/c")))
+	checkQuery(t, next, "$.b[?@>0]", "/b/0", "/b/2")
+	segs, code := impl.ParsePath("$..b[-2:]")
+	if written, ok := impl.PathText(segs); code != 0 || written != "$..['b'][-2:]" || !ok {
+		t.Errorf("%d, %s, %v", code, written, ok)
+	}
+	checkQuery(t, next, "$..b[-2:]", "/b/1", "/b/2")
 }
