@@ -364,6 +364,11 @@ func appendPlaces(places []string, ptr string, v value) []string {
 	return places
 }
 
+func isPointer(text string) bool {
+	_, ok := PtrTokens(text)
+	return ok
+}
+
 func writeToken(b *strings.Builder, token string) {
 	b.WriteByte('/')
 	for i := range len(token) {
@@ -456,6 +461,16 @@ func readText(text string) (value, int) {
 		return nil, 5
 	}
 	return root, 0
+}
+
+// readCanonText says by its second answer whether a text is good and in canonical
+// form.
+func readCanonText(text string) (value, bool) {
+	root, code := readText(text)
+	if code != 0 || canonText(root) != text {
+		return nil, false
+	}
+	return root, true
 }
 
 // peek gives the byte 0 at the end: no value begins with it and it is no digit.

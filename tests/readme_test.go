@@ -42,3 +42,47 @@ func TestReadmeExamples(t *testing.T) {
 	}
 	checkQuery(t, next, "$..b[-2:]", "/b/1", "/b/2")
 }
+
+func TestReadmeStore(t *testing.T) {
+	store := open(t, `{"a":1}`)
+	mine, first := begin(t, store, `[{"op":"add","path":"/b","value":2}]`)
+	other, second := begin(t, store, `[{"op":"add","path":"/c","value":3}]`)
+	running := impl.Verdict{Kind: impl.Running}
+	if first != running || second != running || mine.Base != 0 {
+		t.Errorf("%+v, %+v", first, second)
+	}
+	store, _, verdict := attempt(t, store, other)
+	if headOf(store).Doc != `{"a":1,"c":3}` || verdict != (impl.Verdict{Kind: impl.Published, No: 1}) {
+		t.Errorf("%s, %+v", spelled(store), verdict)
+	}
+	store, mine, verdict = attempt(t, store, mine)
+	if mine.Base != 1 || mine.Tries != 1 || verdict != running {
+		t.Errorf("%s, %+v", spelled(mine), verdict)
+	}
+	store, _, verdict = attempt(t, store, mine)
+	if headOf(store).Doc != `{"a":1,"b":2,"c":3}` || verdict != (impl.Verdict{Kind: impl.Published, No: 2}) {
+		t.Errorf("%s, %+v", spelled(store), verdict)
+	}
+}
+
+func TestReadmeHub(t *testing.T) {
+	hub, code := subscribe(t, impl.Hub{}, 0, "/b", 1, 1)
+	if code != 0 {
+		t.Errorf("%d", code)
+	}
+	hub = tellLater(t, tellLater(t, hub, 2, "/b", "/c"), 3, "")
+	hub, first := dispatch(t, hub)
+	hub, second := dispatch(t, hub)
+	if !first || !second || !hub.Watches[0].Closed {
+		t.Errorf("%v, %v, %s", first, second, spelled(hub))
+	}
+	hub, message1, code := take(t, hub, 0)
+	if !alike(message1, message(2, "/b")) || code != 0 {
+		t.Errorf("%s, %d", spelled(message1), code)
+	}
+	hub, message2, code := take(t, hub, 0)
+	if !alike(message2, over(3)) || code != 4 {
+		t.Errorf("%s, %d", spelled(message2), code)
+	}
+	checkCancel(t, hub, 0, impl.Hub{}, 0)
+}
