@@ -106,20 +106,11 @@ func Within(a string, b string) int {
 
 // Resolve gives the value at a place.
 func Resolve(doc string, ptr string) (string, int) {
-	v, code := readText(doc)
+	root, code := readText(doc)
 	if code != 0 {
 		return "", 1
 	}
-	tokens, ok := PtrTokens(ptr)
-	if !ok {
-		return "", 2
-	}
-	for _, token := range tokens {
-		if v, ok = child(v, token); !ok {
-			return "", 3
-		}
-	}
-	return canonText(v), 0
+	return resolveIn(root, ptr)
 }
 
 // Places lists all places.
@@ -320,6 +311,20 @@ func (s *size) include(v value) {
 	s.bytes += inner.bytes
 }
 
+// resolveIn is Resolve in a document that has been read.
+func resolveIn(v value, ptr string) (string, int) {
+	tokens, ok := PtrTokens(ptr)
+	if !ok {
+		return "", 2
+	}
+	for _, token := range tokens {
+		if v, ok = child(v, token); !ok {
+			return "", 3
+		}
+	}
+	return canonText(v), 0
+}
+
 func child(v value, token string) (value, bool) {
 	switch x := v.(type) {
 	case *arrayValue:
@@ -340,20 +345,26 @@ const maxIndexDigits = 6
 // readIndex leaves it to the caller to hold the number against a length: some
 // places allow the length itself.
 func readIndex(token string) (int, bool) {
-	if token == "" || len(token) > maxIndexDigits {
+	if len(token) > 1 && token[0] == '0' {
 		return 0, false
 	}
-	if token[0] == '0' && len(token) > 1 {
+	return readDigits(token, maxIndexDigits)
+}
+
+// readDigits reads a text that has at least one digit, at most so many, and no
+// other byte.
+func readDigits(text string, most int) (int, bool) {
+	if text == "" || len(text) > most {
 		return 0, false
 	}
-	index := 0
-	for i := range len(token) {
-		if !isDigit(token[i]) {
+	n := 0
+	for i := range len(text) {
+		if !isDigit(text[i]) {
 			return 0, false
 		}
-		index = index*10 + int(token[i]-'0')
+		n = n*10 + int(text[i]-'0')
 	}
-	return index, true
+	return n, true
 }
 
 func appendPlaces(places []string, ptr string, v value) []string {

@@ -86,3 +86,26 @@ func TestReadmeHub(t *testing.T) {
 	}
 	checkCancel(t, hub, 0, impl.Hub{}, 0)
 }
+
+func TestReadmeScript(t *testing.T) {
+	out, code, line := run(t, `doc {"a":1}
+0 watch 2 /b
+1 patch [{"op":"add","path":"/b","value":2}]
+2 patch [{"op":"add","path":"/c","value":3}]
+1 get /c
+0 take
+picks 0 1 2 2 1 1 d d 0 1`)
+	want := []impl.Event{watched(0, 0, 0, 0), published(2, 2, 1), published(1, 1, 2), took(0, 4, 0, message(2, "/b")), got(1, 3, 2, 0, "3")}
+	if code != 0 || line != 0 || !alike(out.Events, want) {
+		t.Errorf("%s, %d, %d", spelled(out.Events), code, line)
+	}
+	if headOf(out.Store).Doc != `{"a":1,"b":2,"c":3}` || !alike(out.Hub, watches(watch(0, "/b", 2, 0))) {
+		t.Errorf("%s, %s", spelled(out.Store), spelled(out.Hub))
+	}
+	s, code, line := parse(t, "doc {}\n1 get /a\n0 patch [{\"op\":\"add\",\"path\":\"/a\",\"value\":1}]\npicks 0 0 1")
+	if code != 0 || line != 0 {
+		t.Fatalf("%d, %d", code, line)
+	}
+	checkRun(t, s, published(0, 1, 1), got(1, 0, 1, 0, "1"))
+	checkSerial(t, s.Doc, calls(s.Calls[1], s.Calls[0]), published(0, 0, 1), got(1, 1, 1, 0, "1"))
+}
